@@ -1,0 +1,1 @@
+"""Loose data and shapes."""

@@ -37,3 +37,11 @@ def nodes_of(shape):
     if not shape:
         return 0
     return 1 + sum([nodes_of(inner) for inner in shapes_in(shape)])
+
+
+# The fields, told ones or a record's own, each under its name.
+def by_name(fields):
+    named = {}
+    for field in fields:
+        named[field[0]] = field
+    return named

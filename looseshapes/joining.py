@@ -1,6 +1,6 @@
 """Shapes joined, and the least shapes of values."""
 
-from looseshapes.forms import MOST_TOLD, PARTS
+from looseshapes.forms import MOST_TOLD, PARTS, by_name
 from looseshapes.patterns import joined_patterns, word_pattern
 from looseshapes.spans import joined_spans
 
@@ -55,13 +55,6 @@ def joined_fields(one, other):
 
 def joined_field(one, other):
     return (one[0], one[1] and other[1], joined(one[2], other[2]))
-
-
-def by_name(fields):
-    named = {}
-    for field in fields:
-        named[field[0]] = field
-    return named
 
 
 # The part for records with these fields: told ones, unless they are too many for that.

@@ -7,7 +7,7 @@ an open one: the lengths as a span, the classes as a text of their letters.
 from looseshapes.reader import MOST_SIGNS, must_rise, take_marked, take_span
 from looseshapes.refusals import Unreadable
 from looseshapes.signs import CLASSES, class_of, codes, marked, strung
-from looseshapes.spans import has_number, joined_spans, span_text
+from looseshapes.spans import has_number, is_span_within, joined_spans, span_text
 
 MOST_WORDS = 4
 
@@ -85,3 +85,11 @@ def classes_needed(pattern):
     for word in pattern[1]:
         letters += "".join([class_of(sign) for sign in word])
     return letters
+
+
+def is_pattern_within(one, other):
+    if one[0] == "words":
+        return all([fits_pattern(word, other) for word in one[1]])
+    if other[0] == "words":
+        return False
+    return is_span_within(one[1], other[1]) and all([letter in other[2] for letter in one[2]])

@@ -1,24 +1,28 @@
 """The calls on one object, and what they answer."""
 
 from looseshapes.data import NULL, depth_of, entries_of, read_value
-from looseshapes.fitting import fits_shape
+from looseshapes.fitting import first_misfit, fits_shape, path_text
 from looseshapes.forms import MOST_NODES, nodes_of
-from looseshapes.joining import least_shape
+from looseshapes.joining import joined, least_shape
 from looseshapes.refusals import NoPlace, TooLarge, Unreadable
 from looseshapes.shapereading import read_shape
 from looseshapes.shapewriting import shape_text
 from looseshapes.signs import codes
+from looseshapes.within import is_within
 
 VALUE = 0
 SHOW = 1
 SHAPE = 2
 TOLD = 3
 LEAST = 4
+FITS = 5
+MISFIT = 6
+JOIN = 7
+LEARN = 8
+WITHIN = 9
 
-# Of value, show, shape, told, least, fits: how many whole numbers the call has, and whether a
-# text is behind them.
-NUMBERS = (0, 0, 1, 1, 0, 1)
-HAS_TEXT = (True, False, True, False, False, False)
+# For each call, from value to size, how many whole numbers it has.
+NUMBERS = (0, 0, 1, 1, 0, 1, 1, 3, 1, 2, 0)
 
 PLACES = 4
 
@@ -60,7 +64,7 @@ def answers(calls):
         numbers = calls[at:at + NUMBERS[number]]
         at += len(numbers)
         text = []
-        if HAS_TEXT[number]:
+        if number in (VALUE, SHAPE):
             text = calls[at + 1:at + 1 + calls[at]]
             at += 1 + len(text)
         answered = answer_or_refusal(holder, number, numbers, text)
@@ -91,12 +95,26 @@ def answer(holder, number, numbers, text):
         return with_length(shape_text(holder.shape_at(numbers[0])))
     if number == LEAST:
         return with_length(shape_text(least_shape(holder.value)))
-    # Only fits is left.
-    return one_or_zero(fits_shape(holder.value, holder.shape_at(numbers[0])))
+    if number == FITS:
+        return one_or_zero(fits_shape(holder.value, holder.shape_at(numbers[0])))
+    if number == MISFIT:
+        return answer_misfit(holder.value, holder.shape_at(numbers[0]))
+    if number == JOIN:
+        return answer_join(holder, numbers[0], numbers[1], numbers[2])
+    if number == LEARN:
+        return answer_learn(holder, numbers[0])
+    if number == WITHIN:
+        return one_or_zero(is_within(holder.shape_at(numbers[0]), holder.shape_at(numbers[1])))
+    # Only size is left.
+    return size_of_value(holder) + [nodes_of(shape) for shape in holder.places]
 
 
 def answer_value(holder, text):
     holder.hold(text)
+    return size_of_value(holder)
+
+
+def size_of_value(holder):
     return [entries_of(holder.value), depth_of(holder.value)]
 
 
@@ -104,6 +122,21 @@ def answer_shape(holder, k, text):
     # That there is no such place is told ahead of what is wrong with the text.
     holder.shape_at(k)
     return one_or_zero(holder.put(k, read_shape(text)))
+
+
+def answer_misfit(value, shape):
+    misfit = first_misfit(value, shape)
+    if misfit is None:
+        return [0]
+    return [1, misfit[0]] + with_length(path_text(misfit[1]))
+
+
+def answer_join(holder, k, j, m):
+    return one_or_zero(holder.put(m, joined(holder.shape_at(k), holder.shape_at(j))))
+
+
+def answer_learn(holder, k):
+    return one_or_zero(holder.put(k, joined(holder.shape_at(k), least_shape(holder.value))))
 
 
 def with_length(text):

@@ -14,3 +14,7 @@ def has_number(span, number):
 # The least span that has both.
 def joined_spans(one, other):
     return (min(one[0], other[0]), max(one[1], other[1]))
+
+
+def is_span_within(one, other):
+    return other[0] <= one[0] and one[1] <= other[1]

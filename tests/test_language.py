@@ -14,7 +14,7 @@ STATEMENTS = (
 )
 BANNED_EXPRESSIONS = (
     ast.GeneratorExp, ast.SetComp, ast.DictComp, ast.Set, ast.NamedExpr, ast.Starred, ast.Yield, ast.YieldFrom,
-    ast.Await, ast.Div, ast.MatMult, ast.Is, ast.IsNot, ast.Pow,
+    ast.Await, ast.Div, ast.MatMult, ast.Pow,
 )
 BUILTINS = set(
     "len range enumerate zip min max sum abs sorted reversed int str bool list tuple dict set frozenset isinstance ord "
@@ -70,6 +70,10 @@ class LanguageTest(unittest.TestCase):
                     self.assertTrue(len(node.generators) == 1 and len(node.generators[0].ifs) <= 1, where)
                 if isinstance(node, (ast.For, ast.While)):
                     self.assertEqual(node.orelse, [], where)
+                if isinstance(node, ast.Compare) and any(isinstance(sign, (ast.Is, ast.IsNot)) for sign in node.ops):
+                    sides = [node.left] + node.comparators
+                    plain = [side for side in sides if isinstance(side, ast.Constant) and side.value in (None, True, False)]
+                    self.assertTrue(len(sides) == 2 and plain, where)
                 if isinstance(node, ast.Constant):
                     self.assertNotIsInstance(node.value, (float, bytes, complex), where)
                     self.assertNotIn("%", str(node.value), where)

@@ -7,7 +7,7 @@ from unittest import mock
 from looseshapes.refusals import NoPlace, TooLarge
 from looseshapes.shapereading import read_shape
 from looseshapes.shapes import Holder
-from tests.helper import NO_PLACE, REFUSED_TEXT, bytes_of, nested, run, shape, text_in, told
+from tests.helper import NO_PLACE, REFUSED_TEXT, bytes_of, nested, run, shape, text_in, told, told_all
 
 PARTS = (
     "null",
@@ -336,26 +336,21 @@ class LimitsTest(ShapeTestCase):
         for text in ("[" * 6000, "{a: (" * 1200, "dict 1..1 s 1..1 (" * 333, self.empty_lists(600)):
             self.assert_refused(text)
 
-    def told_all(self, shapes):
-        """Needed fields with these shapes: one node more than these have."""
-        fields = ", ".join(f"{name}: ({text})" for name, text in zip("abcdefgh", shapes))
-        return "{" + fields + "} " + f"{len(shapes)}..{len(shapes)}"
-
     def test_nodes(self):
         one = "null | bool | num 1..2"
-        nine = self.told_all([one] * 8)
+        nine = told_all([one] * 8)
         two = "[null] 1..1"
         three = "[[null] 1..1] 1..1"
         for text in (three, "[null] 0..1 | {a?: (bool)} 0..1", "dict 1..1 s 1..1 ([null] 1..1)",
                      "[[[none] 0..0] 1..1] 1..1", "[none] 0..0 | {a: (null), b: (null)} 2..2"):
-            self.assert_shape(self.told_all([nine] * 6 + [two, text]))
-            self.assert_refused(self.told_all([nine] * 6 + [three, text]))
-        self.assert_refused(self.told_all([nine] * 7))
-        self.assert_refused(self.told_all([nine] * 8))
+            self.assert_shape(told_all([nine] * 6 + [two, text]))
+            self.assert_refused(told_all([nine] * 6 + [three, text]))
+        self.assert_refused(told_all([nine] * 7))
+        self.assert_refused(told_all([nine] * 8))
 
     def test_too_many_nodes_leave_the_place(self):
-        nine = self.told_all(["null"] * 8)
-        given = run(shape(0, nine), shape(0, self.told_all([nine] * 7)), told(0))
+        nine = told_all(["null"] * 8)
+        given = run(shape(0, nine), shape(0, told_all([nine] * 7)), told(0))
         self.assertEqual(given[:2], [[1], REFUSED_TEXT])
         self.assertEqual(text_in(given[2]), nine)
 
